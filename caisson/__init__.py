@@ -1,0 +1,1 @@
+"""Caisson: a volume on a disk that nobody trusts."""
