@@ -1,4 +1,4 @@
-"""Cells, and the contents of a blank volume."""
+"""Cells, anchors, and the contents of a blank volume."""
 
 
 def leaf(words):
@@ -9,6 +9,16 @@ def leaf(words):
 def node(entries):
     """Returns the inner cell with these entries."""
     return ("node", *entries)
+
+
+def parts(cell):
+    """Returns the tuple of the words of a leaf cell, or of the entries of an inner cell."""
+    return cell[1:]
+
+
+def replaced(anchor, roots):
+    """Returns the anchor that comes after this one, with these roots."""
+    return ("anchor", anchor[1] + 1, roots)
 
 
 def blank_volume(shape, sealer):
